@@ -401,11 +401,12 @@ func TestSameObjectsIsAskedOfAny(t *testing.T) {
 	}
 }
 
-// told is all that an answer of a function of this chapter can have.
+// told is all that an answer of a function of this chapter and of the next one can have.
 type told struct {
 	code    int64
 	objects []impl.Object
 	arena   impl.Arena
+	list    []int64
 	numbers [2]int64
 }
 
@@ -438,7 +439,8 @@ func objectCalls(at, i, value int64) map[string]func(a impl.Arena) told {
 }
 
 func equalTold(a, b told) bool {
-	return a.code == b.code && a.numbers == b.numbers && equalArenas(a.arena, b.arena) && slices.EqualFunc(a.objects, b.objects, equalObjects)
+	return a.code == b.code && a.numbers == b.numbers && equalArenas(a.arena, b.arena) &&
+		slices.Equal(a.list, b.list) && slices.EqualFunc(a.objects, b.objects, equalObjects)
 }
 
 func TestObjectFunctionsAnswerAlikeAndChangeNoArgument(t *testing.T) {
@@ -494,7 +496,7 @@ func TestAnswersOfObjectFunctionsShareNoMemory(t *testing.T) {
 
 // spoil writes on all lists of an answer and behind them.
 func spoil(answer told) {
-	lists := [][]int64{answer.arena.Words}
+	lists := [][]int64{answer.arena.Words, answer.list}
 	for _, o := range answer.objects {
 		lists = append(lists, o.Fields)
 	}
