@@ -183,6 +183,9 @@ func wantHeapFault(t *testing.T, what string, h impl.Heap, code int64) {
 	}
 	wantInts(t, what+": RootsOf", impl.RootsOf(h), code)
 	wantNoHeap(t, what+": CollectHeap", impl.CollectHeap(h), code)
+	for _, tenant := range []int64{0, 2, 9, -1} {
+		wantNoMachine(t, fmt.Sprint(what, ": AbstractOf ", tenant), impl.AbstractOf(h, tenant), code)
+	}
 	for _, o := range []impl.Op{{}, {Tenant: 9}, {Kind: impl.OpUsed}, {Kind: impl.OpNew, Force: true}, {Tenant: -1, Kind: 12, Force: true}} {
 		wantNoHeap(t, fmt.Sprintf("%s: DoHeap of %+v", what, o), impl.DoHeap(h, o), code)
 	}
@@ -203,6 +206,9 @@ func wantConfigFault(t *testing.T, what string, c impl.Config, code int64) {
 	for _, list := range [][]impl.Op{nil, {{Kind: impl.OpUsed}}, {{Tenant: 9, Force: true}}, make([]impl.Op, 301)} {
 		wantNoHeap(t, fmt.Sprint(what, ": RunHeap of ", len(list), " ops"), impl.RunHeap(c, list), code)
 		wantNoProduct(t, fmt.Sprint(what, ": RunProduct of ", len(list), " ops"), impl.RunProduct(c, list), code)
+		for _, tenant := range []int64{0, 2, 9, -1} {
+			wantNoViews(t, fmt.Sprint(what, ": ", len(list), " ops"), c, list, tenant, code)
+		}
 	}
 }
 
