@@ -178,8 +178,15 @@ func wantHeapFault(t *testing.T, what string, h impl.Heap, code int64) {
 		t.Errorf("%s: HeapFault is %d, want %d, of %+v", what, got, code, h)
 		return
 	}
+	if impl.IsIsolated(h) != (code == impl.OK) {
+		t.Errorf("%s: HeapFault is %d, and IsIsolated %v, of %+v", what, code, impl.IsIsolated(h), h)
+	}
 	if code == impl.OK {
 		return
+	}
+	wantWords(t, what+": HeldBy", impl.HeldBy(h), code)
+	for _, tenant := range []int64{0, 2, 4, 9, -1} {
+		wantWord(t, fmt.Sprint(what, ": SpaceFor ", tenant), impl.SpaceFor(h, tenant), code, 0)
 	}
 	wantInts(t, what+": RootsOf", impl.RootsOf(h), code)
 	wantNoHeap(t, what+": CollectHeap", impl.CollectHeap(h), code)
@@ -206,8 +213,12 @@ func wantConfigFault(t *testing.T, what string, c impl.Config, code int64) {
 	for _, list := range [][]impl.Op{nil, {{Kind: impl.OpUsed}}, {{Tenant: 9, Force: true}}, make([]impl.Op, 301)} {
 		wantNoHeap(t, fmt.Sprint(what, ": RunHeap of ", len(list), " ops"), impl.RunHeap(c, list), code)
 		wantNoProduct(t, fmt.Sprint(what, ": RunProduct of ", len(list), " ops"), impl.RunProduct(c, list), code)
+		if impl.IsFaithful(c, list) {
+			t.Errorf("%s: IsFaithful of %d ops of %+v", what, len(list), c)
+		}
 		for _, tenant := range []int64{0, 2, 9, -1} {
 			wantNoViews(t, fmt.Sprint(what, ": ", len(list), " ops"), c, list, tenant, code)
+			wantBlind(t, fmt.Sprint(what, ": ", len(list), " ops"), c, list, nil, tenant)
 		}
 	}
 }
