@@ -187,6 +187,7 @@ func wantHeapFault(t *testing.T, what string, h impl.Heap, code int64) {
 	wantWords(t, what+": HeldBy", impl.HeldBy(h), code)
 	for _, tenant := range []int64{0, 2, 4, 9, -1} {
 		wantWord(t, fmt.Sprint(what, ": SpaceFor ", tenant), impl.SpaceFor(h, tenant), code, 0)
+		wantInts(t, fmt.Sprint(what, ": HandlesOf ", tenant), impl.HandlesOf(h, tenant), code)
 	}
 	wantInts(t, what+": RootsOf", impl.RootsOf(h), code)
 	wantNoHeap(t, what+": CollectHeap", impl.CollectHeap(h), code)
@@ -216,7 +217,9 @@ func wantConfigFault(t *testing.T, what string, c impl.Config, code int64) {
 		if impl.IsFaithful(c, list) {
 			t.Errorf("%s: IsFaithful of %d ops of %+v", what, len(list), c)
 		}
+		wantNoHeld(t, fmt.Sprint(what, ": ", len(list), " ops"), c, list, code)
 		for _, tenant := range []int64{0, 2, 9, -1} {
+			wantNoAccount(t, fmt.Sprint(what, ": ", len(list), " ops"), c, list, tenant, code)
 			wantNoViews(t, fmt.Sprint(what, ": ", len(list), " ops"), c, list, tenant, code)
 			wantBlind(t, fmt.Sprint(what, ": ", len(list), " ops"), c, list, nil, tenant)
 		}

@@ -685,25 +685,7 @@ func visitArguments(visit func(v viewArguments)) {
 }
 
 func TestViewsAnswerAlikeAndChangeNoArgument(t *testing.T) {
-	calls := viewCalls()
-	visitArguments(func(v viewArguments) {
-		v = v.roomy()
-		before := v.behind()
-		for name, call := range calls {
-			first, second := call(v), call(v)
-			if !equalViews(first, second) {
-				t.Fatalf("%s answers %+v and then %+v", name, first, second)
-			}
-			want := copiedView(second)
-			spoilView(first)
-			if !equalViews(second, want) || !equalViews(call(v), want) {
-				t.Fatalf("%s: what was done to an answer is seen in another one", name)
-			}
-			if !v.behind().equals(before) {
-				t.Fatalf("%s turned %+v into %+v", name, before, v)
-			}
-		}
-	})
+	wantCallsAlike(t, viewCalls(), equalViews, copiedView, spoilView)
 }
 
 // TestListsOfAnAbstractMachineShareNoMemory writes on one list of an answer after the other, and

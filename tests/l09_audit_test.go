@@ -607,24 +607,9 @@ func auditCalls() map[string]func(v viewArguments) toldAudit {
 }
 
 func TestAuditsAnswerAlikeAndChangeNoArgument(t *testing.T) {
-	calls := auditCalls()
-	visitArguments(func(v viewArguments) {
-		v = v.roomy()
-		before := v.behind()
-		for name, call := range calls {
-			first, second := call(v), call(v)
-			if !equalAudits(first, second) {
-				t.Fatalf("%s answers %+v and then %+v", name, first, second)
-			}
-			want := second
-			want.parts.Words = slices.Clone(second.parts.Words)
-			fill(first.parts.Words)
-			if !equalAudits(second, want) || !equalAudits(call(v), want) {
-				t.Fatalf("%s: what was done to an answer is seen in another one", name)
-			}
-			if !v.behind().equals(before) {
-				t.Fatalf("%s turned %+v into %+v", name, before, v)
-			}
-		}
-	})
+	copied := func(told toldAudit) toldAudit {
+		told.parts.Words = slices.Clone(told.parts.Words)
+		return told
+	}
+	wantCallsAlike(t, auditCalls(), equalAudits, copied, func(told toldAudit) { fill(told.parts.Words) })
 }

@@ -247,3 +247,27 @@ func heapOf(m impl.Machine) plan {
 	p.half = max(8, wordsIn(p.objects), other.Quota+held)
 	return p
 }
+
+// wantCallsAlike asks of calls by all arguments that visitArguments has that they answer alike each
+// time, that no argument is changed, and that what is done to an answer is not seen in another one.
+func wantCallsAlike[T any](t *testing.T, calls map[string]func(v viewArguments) T, equal func(a, b T) bool, copied func(told T) T, spoil func(told T)) {
+	t.Helper()
+	visitArguments(func(v viewArguments) {
+		v = v.roomy()
+		before := v.behind()
+		for name, call := range calls {
+			first, second := call(v), call(v)
+			if !equal(first, second) {
+				t.Fatalf("%s answers %+v and then %+v", name, first, second)
+			}
+			want := copied(second)
+			spoil(first)
+			if !equal(second, want) || !equal(call(v), want) {
+				t.Fatalf("%s: what was done to an answer is seen in another one", name)
+			}
+			if !v.behind().equals(before) {
+				t.Fatalf("%s turned %+v into %+v", name, before, v)
+			}
+		}
+	})
+}
